@@ -394,21 +394,27 @@ func wantNothingFrom(t *testing.T, what string, g impl.Graph, m int, source int)
 	}
 }
 
-func TestViewsOfInvalidArguments(t *testing.T) {
+// checkInvalidStarts calls check with a graph, a kind and a source of which one is not valid, or not one of the graph.
+func checkInvalidStarts(t *testing.T, check func(t *testing.T, what string, g impl.Graph, m int, source int)) {
+	t.Helper()
 	for name, g := range invalidGraphs() {
 		for _, k := range allKinds() {
-			wantNothingFrom(t, name, g, k.m, 0)
+			check(t, name, g, k.m, 0)
 		}
 	}
 	g := graphOf(t, "3 0>1=5 1>2=7")
 	for _, m := range invalidKinds() {
-		wantNothingFrom(t, fmt.Sprintf("the kind %d", m), g, m, 0)
+		check(t, fmt.Sprintf("the kind %d", m), g, m, 0)
 	}
-	for _, source := range []int{-1, 3, math.MinInt, math.MaxInt} {
+	for _, source := range []int{-1, 3, 12, math.MinInt, math.MaxInt} {
 		for _, k := range allKinds() {
-			wantNothingFrom(t, fmt.Sprintf("the source %d", source), g, k.m, source)
+			check(t, fmt.Sprintf("%s: the source %d", k.name, source), g, k.m, source)
 		}
 	}
+}
+
+func TestViewsOfInvalidArguments(t *testing.T) {
+	checkInvalidStarts(t, wantNothingFrom)
 	for _, source := range []int{0, impl.MaxNodes - 1} {
 		got, ok := impl.ViewOf(greatestGraph(), impl.MeasureReach, source)
 		if !ok || got.Source != source || len(got.Values) != impl.MaxNodes {

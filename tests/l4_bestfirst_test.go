@@ -300,18 +300,10 @@ func wantNoTarget(t *testing.T, what string, g impl.Graph, m int, target int) {
 }
 
 func TestSearchesOfInvalidArguments(t *testing.T) {
-	for name, g := range invalidGraphs() {
-		for _, k := range allKinds() {
-			wantNoSearch(t, name, g, k.m, 0)
-		}
-	}
+	checkInvalidStarts(t, wantNoSearch)
 	g := graphOf(t, "3 0>1=5 1>2=7")
-	for _, m := range invalidKinds() {
-		wantNoSearch(t, fmt.Sprintf("the kind %d", m), g, m, 0)
-	}
 	for _, node := range []int{-1, 3, math.MinInt, math.MaxInt} {
 		for _, k := range allKinds() {
-			wantNoSearch(t, fmt.Sprintf("the source %d", node), g, k.m, node)
 			wantNoTarget(t, fmt.Sprintf("the target %d", node), g, k.m, node)
 		}
 	}

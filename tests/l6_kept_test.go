@@ -284,23 +284,11 @@ func TestKeepView(t *testing.T) {
 }
 
 func TestKeepViewOfInvalidArguments(t *testing.T) {
-	for name, g := range invalidGraphs() {
-		for _, k := range allKinds() {
-			got, ok := impl.KeepView(g, k.m, 0)
-			wantNoKept(t, name, got, ok)
-		}
-	}
-	g := graphOf(t, "3 0>1=5 1>2=7")
-	for _, m := range invalidKinds() {
-		got, ok := impl.KeepView(g, m, 0)
-		wantNoKept(t, fmt.Sprintf("the kind %d", m), got, ok)
-	}
-	for _, k := range allKinds() {
-		for _, source := range []int{-1, 3, 12, math.MinInt, math.MaxInt} {
-			got, ok := impl.KeepView(g, k.m, source)
-			wantNoKept(t, fmt.Sprintf("%s: the source %d", k.name, source), got, ok)
-		}
-	}
+	checkInvalidStarts(t, func(t *testing.T, what string, g impl.Graph, m int, source int) {
+		t.Helper()
+		got, ok := impl.KeepView(g, m, source)
+		wantNoKept(t, what, got, ok)
+	})
 }
 
 func TestKeptValid(t *testing.T) {
