@@ -922,16 +922,7 @@ func changedAtRandom(t *testing.T, random *rand.Rand, k impl.Kept, weight int) i
 
 // TestPromise6InSmallGraphs makes all changes to all graphs with three nodes and weights up to 2.
 func TestPromise6InSmallGraphs(t *testing.T) {
-	all := firstEdges(3, 6)
-	for number := range 3 * 3 * 3 * 3 * 3 * 3 {
-		g := impl.Graph{Nodes: 3}
-		rest := number
-		for _, e := range all {
-			if weight := rest % 3; weight > 0 {
-				g.Edges = append(g.Edges, impl.Edge{From: e.From, To: e.To, Weight: weight})
-			}
-			rest /= 3
-		}
+	for _, g := range allGraphs(3, firstEdges(3, 6), 2) {
 		for _, kind := range allKinds() {
 			wantAllChanges(t, keepView(t, g, kind.m, 0), 1, 2)
 		}

@@ -85,6 +85,21 @@ func allLists(count int, first int, last int) [][]int {
 	return lists
 }
 
+// allGraphs are the graphs with some of edges, with all weights up to weight.
+func allGraphs(nodes int, edges []impl.Edge, weight int) []impl.Graph {
+	var graphs []impl.Graph
+	for _, weights := range allLists(len(edges), 0, weight) {
+		g := impl.Graph{Nodes: nodes}
+		for i, e := range edges {
+			if weights[i] > 0 {
+				g.Edges = append(g.Edges, impl.Edge{From: e.From, To: e.To, Weight: weights[i]})
+			}
+		}
+		graphs = append(graphs, g)
+	}
+	return graphs
+}
+
 // proofsOf are all parents that CheckProof accepts.
 func proofsOf(g impl.Graph, v impl.View) [][]int {
 	var proofs [][]int
@@ -797,15 +812,9 @@ func wantPathsByParents(t *testing.T, k impl.Kept) {
 // TestPromise7InSmallGraphs tries all parents for all views with small values
 // in all graphs of three nodes with weights up to 2, where no edge leads to the source.
 func TestPromise7InSmallGraphs(t *testing.T) {
-	edges := [][2]int{{0, 1}, {0, 2}, {1, 2}, {2, 1}}
+	edges := []impl.Edge{{From: 0, To: 1}, {From: 0, To: 2}, {From: 1, To: 2}, {From: 2, To: 1}}
 	allParents := allLists(3, -1, 2)
-	for _, weights := range allLists(len(edges), 0, 2) {
-		g := impl.Graph{Nodes: 3}
-		for i, weight := range weights {
-			if weight > 0 {
-				g.Edges = append(g.Edges, impl.Edge{From: edges[i][0], To: edges[i][1], Weight: weight})
-			}
-		}
+	for _, g := range allGraphs(3, edges, 2) {
 		for _, kind := range allKinds() {
 			right := impl.View{Measure: kind.m, Values: kind.bestByPaths(t, g, 0)}
 			for _, v := range kind.smallViews() {
