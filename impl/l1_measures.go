@@ -123,6 +123,17 @@ func betterOf[V any](ops operations[V], a V, b V) V {
 	return a
 }
 
+// compareMeasures is the order of measures, the better one first.
+func compareMeasures[V any](ops operations[V], a V, b V) int {
+	switch {
+	case ops.better(a, b):
+		return -1
+	case ops.better(b, a):
+		return 1
+	}
+	return 0
+}
+
 func measureOfEdges[V any](ops operations[V], weights []int) V {
 	whole := ops.emptyPath()
 	for _, weight := range weights {
